@@ -211,7 +211,7 @@ func (c skyChecker) blocksOk(blocks []SkyBlock, taken skyTaken) bool {
 		return false
 	}
 	for i, b := range blocks {
-		if i > 0 && !skyBlockAhead(blocks[i-1], b) {
+		if i > 0 && skyCompareBlocks(blocks[i-1], b) >= 0 {
 			return false
 		}
 		// A block that reaches out of the sky may have too many places to go through.
@@ -283,9 +283,9 @@ func skyHasBlock(s Sky, b SkyBlock) bool {
 	return corners && levels && b.X0 <= b.X1 && b.Y0 <= b.Y1 && b.Low <= b.High
 }
 
-// skyBlockAhead says whether a block stands ahead of another one in their sector.
-func skyBlockAhead(a SkyBlock, b SkyBlock) bool {
-	return cmp.Or(cmp.Compare(a.X0, b.X0), cmp.Compare(a.Y0, b.Y0), cmp.Compare(a.Low, b.Low)) < 0
+// skyCompareBlocks is the order in which blocks stand in their sector.
+func skyCompareBlocks(a SkyBlock, b SkyBlock) int {
+	return cmp.Or(cmp.Compare(a.X0, b.X0), cmp.Compare(a.Y0, b.Y0), cmp.Compare(a.Low, b.Low))
 }
 
 // skyHasRunway says whether a runway has a turn, and it and the cell ahead of it are cells of a sky.
