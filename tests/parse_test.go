@@ -498,14 +498,9 @@ func checkSame(t *testing.T, got, want impl.Sky) {
 func TestSkyParseOfAnyBytes(t *testing.T) {
 	r := rand.New(rand.NewPCG(5, 5))
 	for range 3000 {
-		text := []byte(drawText(r))
-		for range 1 + r.IntN(3) {
-			if len(text) > 0 {
-				text[r.IntN(len(text))] = byte(r.IntN(256))
-			}
-		}
-		_, want := faultByTable(string(text))
-		if _, f := impl.SkyParse(string(text)); f != want {
+		text := otherBytes(r, drawText(r))
+		_, want := faultByTable(text)
+		if _, f := impl.SkyParse(text); f != want {
 			t.Fatalf("fault %+v, not %+v, of %q", f, want, text)
 		}
 	}

@@ -316,9 +316,24 @@ func drawText(r *rand.Rand) string {
 	for range r.IntN(4) {
 		lines = bendLines(r, lines)
 	}
-	text := textOf(lines)
+	return openEnd(r, textOf(lines))
+}
+
+// openEnd is a text, at times without the newline at its end.
+func openEnd(r *rand.Rand, text string) string {
 	if r.IntN(3) == 0 {
-		text = strings.TrimSuffix(text, "\n")
+		return strings.TrimSuffix(text, "\n")
 	}
 	return text
+}
+
+// otherBytes is a text with some bytes of it changed to any others.
+func otherBytes(r *rand.Rand, text string) string {
+	bytes := []byte(text)
+	for range 1 + r.IntN(3) {
+		if len(bytes) > 0 {
+			bytes[r.IntN(len(bytes))] = byte(r.IntN(256))
+		}
+	}
+	return string(bytes)
 }
